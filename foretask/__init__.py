@@ -1,0 +1,1 @@
+"""Foretask: sequential programs whose tasks run before their turn."""
