@@ -15,3 +15,6 @@ INSTRUCTIONS = 2000
 INTEGER = 10 ** 60
 RUN_CHARACTERS = 200
 ITEMS = 40
+
+# Runs: how many calls there are within one another.
+CALLS = 12

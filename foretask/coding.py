@@ -1,11 +1,10 @@
 """The code of expressions and statements. The functions of the tables add the code of one expression or one
 statement to a Coder, in a scope."""
 
+from foretask.operators import OPPOSITES
 from foretask.scopes import scope_of, variables_of
 from foretask.values import NONE
 
-# Operators that have no instruction: the one that is used instead, with not behind it.
-OPPOSITES = {">": "<=", ">=": "<", "!=": "=="}
 # Stands for an address behind an instruction until it is known.
 UNKNOWN = -1
 

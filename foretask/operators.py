@@ -3,6 +3,8 @@
 from foretask.bounds import INTEGER, RUN_CHARACTERS
 
 KIND = ("error", "kind")
+# The operators that both does not have: the one that is used instead, with opposite behind it.
+OPPOSITES = {">": "<=", ">=": "<", "!=": "=="}
 
 
 def both(op, a, b):

@@ -3,6 +3,8 @@
 import unittest
 
 from foretask.errors import NameFault, TextFault
+from foretask.parsing import parse
+from foretask.program import compile_tree
 
 
 def place_of(text, at):
@@ -62,3 +64,30 @@ class Case(unittest.TestCase):
                 function(tree)
             error = caught.exception
             self.assertEqual((error.line, error.reason), (line, reason))
+
+
+NONE = ("none",)
+TRUE = ("bool", True)
+FALSE = ("bool", False)
+# Three objects that are all different: a frame, the variables of the program, and any other object.
+FRAME = ("object", (1,), 4)
+TOP = ("object", (), 0)
+THING = ("object", (0, 2), 3)
+
+
+def integer(number):
+    return ("int", number)
+
+
+def text_value(characters):
+    return ("text", characters)
+
+
+def program_of(text):
+    """Returns the Program of a program text."""
+    return compile_tree(parse(text))
+
+
+def state_of(run):
+    """Returns what a sequential run and a machine share, as one value that can be compared."""
+    return (run.memory, run.out, run.left, run.task, run.local, run.made, run.spawned, run.ended)
