@@ -220,12 +220,24 @@ class TestLanguage(unittest.TestCase):
             ("errors", "ForetaskError TextFault NameFault UnknownVariable NoSuchStep BadImage"), ("words", "tokens"),
             ("strings", "shown_value quoted"), ("parsing", "parse parse_expression"), ("printing", "show show_expression"),
             ("scopes", "variables_of"), ("program", "Program compile_tree"), ("operators", "both negative opposite truth"),
-            ("cells", "field_cell item_cell array_size"),
+            ("cells", "field_cell item_cell array_size"), ("leaving", "leave thrown"),
+            ("steps", "beginning action with_value with_object waits"),
+            ("serial", "Serial next_action serial_step run_serial value_of"), ("direct", "meaning"),
+            ("without", "without_ahead"), ("machine", "Machine"), ("runs", "begun run_step"),
+            ("publishing", "first_wrong publish"), ("trace", "trace"),
         ):
             for name in names.split():
                 self.assertIn(name, self.defined(file + ".py"))
-        program = [node for node in self.trees["program.py"].body if getattr(node, "name", "") == "Program"][0]
-        self.assertIn("listing", [node.name for node in program.body if isinstance(node, ast.FunctionDef)])
+        self.check_methods("program", "Program", "listing")
+        self.check_methods("machine", "Machine",
+                           "step_task step_all step_first lose order __len__ readings_of value_at look")
+
+    def check_methods(self, file, name, methods):
+        """Each method of the interface is defined in its class itself."""
+        found = [node for node in self.trees[file + ".py"].body if getattr(node, "name", "") == name][0]
+        own = [node.name for node in found.body if isinstance(node, ast.FunctionDef)]
+        for method in methods.split():
+            self.assertIn(method, own)
 
 
 if __name__ == "__main__":
