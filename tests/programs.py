@@ -192,3 +192,96 @@ def made(count, first=0):
     """Returns pairs of a program and its input that are made by chance."""
     inputs = ((), (integer(2), TRUE), (integer(0), integer(3), text_value("x")))
     return tuple((Maker(seed).program(), inputs[seed % 3]) for seed in range(first, first + count))
+
+
+class Racer:
+    """Makes short programs by chance whose tasks read and write the same few variables, which hold few values, so that
+    early readings are now right and now wrong."""
+
+    def __init__(self, seed):
+        self.chance = random.Random(seed)
+        self.counters = []
+        # The procedures that may be called here are those with lesser numbers, so each run ends.
+        self.callable = 0
+
+    def pick(self, *rows):
+        return self.chance.choice(rows)
+
+    def rare(self, one_in):
+        return self.chance.randrange(one_in) == 0
+
+    def program(self):
+        parts = []
+        for number in range(3):
+            self.callable = number
+            parts.append(f"proc p{number}(k) {{ {self.block(2)} }}")
+        self.callable = 3
+        parts.append("var x = 0; var y = 0; var z = 1;")
+        parts.append(self.block(3, 5))
+        parts.append(self.pick("print x;", "", "print y; print z;"))
+        return "\n".join(parts)
+
+    def block(self, depth, most=3):
+        return " ".join(self.statement(depth) for _ in range(self.chance.randrange(1, most + 1)))
+
+    def statement(self, depth):
+        kinds = ["assign"] * 5
+        if self.callable:
+            kinds += ["call"] * 5
+        if self.rare(6):
+            kinds += ["print"]
+        if depth > 0:
+            kinds += ["if"] * 2 + ["for"] * 2 + ["try"]
+            if self.rare(3):
+                kinds += ["leave"]
+        return getattr(self, "make_" + self.pick(*kinds))(depth)
+
+    def inside(self):
+        return ["k"] if self.callable < 3 else []
+
+    def number(self):
+        return self.pick("x", "y", "z", "0", "1", *self.inside(), *self.counters)
+
+    def variable(self):
+        return self.pick("x", "x", "y", "z", *self.inside())
+
+    def test(self):
+        return f"{self.number()} {self.pick('==', '<', '<=')} {self.number()}"
+
+    def ahead(self):
+        return self.pick("", "ahead ", "ahead ")
+
+    def make_assign(self, _):
+        return f"{self.variable()} = {self.pick(self.number(), '1 - ' + self.number(), self.number() + ' + 1')};"
+
+    def make_call(self, _):
+        begin = f"{self.variable()} = " if self.rare(4) else ""
+        return f"{begin}{self.ahead()}p{self.chance.randrange(self.callable)}({self.number()});"
+
+    def make_print(self, _):
+        return f"print {self.number()};"
+
+    def make_if(self, depth):
+        other = f" else {{ {self.block(depth - 1)} }}" if self.rare(2) else ""
+        return f"if ({self.test()}) {{ {self.block(depth - 1)} }}{other}"
+
+    def make_for(self, depth):
+        counter = f"i{len(self.counters)}"
+        self.counters.append(counter)
+        block = self.block(depth - 1)
+        if self.rare(4):
+            block += f" if ({self.test()}) {{ break; }}"
+        self.counters.pop()
+        return f"{self.ahead()}for ({counter} = 0 to {self.pick('1', '2')}) {{ {block} }}"
+
+    def make_try(self, depth):
+        return f"try {{ {self.block(depth - 1)} }} catch ({self.pick('e', 'x')}) {{ {self.block(depth - 1)} }}"
+
+    def make_leave(self, _):
+        leaving = "return x;" if self.callable < 3 else "throw x;"
+        return f"if ({self.test()}) {{ {self.pick('throw 1;', leaving)} }}"
+
+
+def races(count, first=0):
+    """Returns pairs of a program, made by chance, and an empty input."""
+    return tuple((Racer(seed).program(), ()) for seed in range(first, first + count))

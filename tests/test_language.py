@@ -1,4 +1,5 @@
-"""The rules of LANGUAGE.md that a short look at the files of the package can check. It does not check all of them."""
+"""The rules of LANGUAGE.md that a short look at the files of the package can check. It does not check all of them, and
+where the package does without something that the rules allow, it asks for no more than that."""
 
 import ast
 import builtins
@@ -150,7 +151,8 @@ class TestLanguage(unittest.TestCase):
                 self.assertIn(node.comparators[0].value, (None, True, False), place)
 
     def test_names(self):
-        every = dir(builtins)
+        # The examples of README.md leave a name _ behind there.
+        every = [name for name in dir(builtins) if name != "_"]
         for place, node in self.nodes(ast.Name):
             if isinstance(node.ctx, ast.Load):
                 self.assertTrue(node.id not in every or node.id in BUILTINS, (place, node.id))
@@ -225,12 +227,142 @@ class TestLanguage(unittest.TestCase):
             ("serial", "Serial next_action serial_step run_serial value_of"), ("direct", "meaning"),
             ("without", "without_ahead"), ("machine", "Machine"), ("runs", "begun run_step"),
             ("publishing", "first_wrong publish"), ("trace", "trace"),
+            ("moments", "place_at begins spawned_at reads_of_others allowed links"), ("back", "taken_back"),
+            ("jobs", "jobs schedule"), ("profiles", "profile dependences without_variables"), ("advice", "advice"),
+            ("rounds", "rounds"), ("history", "state_at changes reason readers visits"), ("numbers", "image"),
+            ("images", "restore"), ("separate", "separate_loops"),
         ):
             for name in names.split():
                 self.assertIn(name, self.defined(file + ".py"))
         self.check_methods("program", "Program", "listing")
         self.check_methods("machine", "Machine",
                            "step_task step_all step_first lose order __len__ readings_of value_at look")
+
+    def parents(self):
+        """Returns the node around each node, by the number of its place in memory."""
+        found = {}
+        for _, node in self.nodes(ast.AST):
+            for inner in ast.iter_child_nodes(node):
+                found[id(inner)] = node
+        return found
+
+    def test_iterated_at_once(self):
+        """L23: these calls stand where something iterates over them; L7: no generator expressions."""
+        parents = self.parents()
+        for place, node in self.nodes(ast.Call):
+            name = getattr(node.func, "id", "")
+            method = node.func.attr if isinstance(node.func, ast.Attribute) else ""
+            if name not in ("zip", "enumerate", "reversed", "range") and method not in ("items", "keys", "values"):
+                continue
+            around = parents[id(node)]
+            if isinstance(around, ast.Call):
+                self.assertIn(getattr(around.func, "id", ""), ("list", "tuple", "dict", "sorted", "sum", "any", "all", "enumerate",
+                                                               "zip", "reversed"), place)
+                if around.func.id == "reversed":
+                    self.assertEqual(name, "range", place)
+            else:
+                self.assertIsInstance(around, (ast.For, ast.comprehension), place)
+                self.assertIs(around.iter, node, place)
+        for place, _ in self.nodes(ast.GeneratorExp, ast.Yield, ast.YieldFrom, ast.Lambda, ast.Global, ast.Nonlocal):
+            self.fail(place)
+
+    def test_sets(self):
+        """L24: a set is made in sorted(..) alone."""
+        parents = self.parents()
+        for place, node in self.nodes(ast.Call):
+            if getattr(node.func, "id", "") in ("set", "frozenset"):
+                self.assertEqual(getattr(getattr(parents[id(node)], "func", None), "id", ""), "sorted", place)
+
+    def test_calls(self):
+        """L22, L25: keywords; L3: functions of tables are called by a name; L25: no sort."""
+        own = [name for file in self.texts for name in self.defined(file)]
+        for place, node in self.nodes(ast.Call):
+            self.assertIsInstance(node.func, (ast.Name, ast.Attribute), place)
+            if isinstance(node.func, ast.Attribute):
+                self.assertEqual(node.keywords, [], place)
+                self.assertNotIn(node.func.attr, ("sort", "format", "encode", "decode"), place)
+            elif node.func.id not in own:
+                self.assertTrue(all(key.arg in ("key", "reverse", "default", "start", "strict") for key in node.keywords), place)
+
+    def test_loops_do_not_change_what_they_iterate_over(self):
+        """L23, as far as it can be told by the words with which the loop names it."""
+        for place, node in self.nodes(ast.For):
+            over = [ast.unparse(node.iter)] + [ast.unparse(part) for part in getattr(node.iter, "args", ())]
+            over += [ast.unparse(node.iter.func.value) for _ in (1,)
+                     if isinstance(node.iter, ast.Call) and isinstance(node.iter.func, ast.Attribute)]
+            for inner in [part for statement in node.body for part in ast.walk(statement)]:
+                if isinstance(inner, ast.Call) and isinstance(inner.func, ast.Attribute):
+                    if inner.func.attr in ("append", "extend", "insert", "pop", "remove", "clear", "reverse", "setdefault", "update"):
+                        self.assertNotIn(ast.unparse(inner.func.value), over, place)
+                if isinstance(inner, ast.Subscript) and not isinstance(inner.ctx, ast.Load):
+                    self.assertNotIn(ast.unparse(inner.value), over, place)
+
+    def test_module_level_tables_are_only_read(self):
+        """L15"""
+        tables = {}
+        for name, tree in self.trees.items():
+            for node in tree.body:
+                if isinstance(node, ast.Assign) and isinstance(node.value, (ast.Dict, ast.List)):
+                    tables[node.targets[0].id] = name
+        parents = self.parents()
+        for place, node in self.nodes(ast.Name):
+            if node.id in tables and isinstance(node.ctx, ast.Load):
+                around = parents[id(node)]
+                if isinstance(around, ast.Attribute):
+                    self.assertIn(around.attr, ("get", "items", "keys", "values", "index", "count"), place)
+                else:
+                    self.assertIsInstance(around, (ast.Subscript, ast.Compare, ast.For, ast.comprehension), place)
+                    if isinstance(around, ast.Subscript):
+                        self.assertIsInstance(around.ctx, ast.Load, place)
+
+    def test_attributes_are_assigned_through_local_names(self):
+        """L18"""
+        for place, node in self.nodes(ast.Attribute):
+            if isinstance(node.ctx, ast.Store):
+                self.assertIsInstance(node.value, ast.Name, place)
+            self.assertFalse(isinstance(node.ctx, ast.Del), place)
+
+    def test_errors_are_raised_and_caught_by_name(self):
+        """L19"""
+        classes = [node.name for _, node in self.nodes(ast.ClassDef)]
+        for place, node in self.nodes(ast.Raise):
+            self.assertIsInstance(node.exc, ast.Call, place)
+            self.assertIn(node.exc.func.id, classes, place)
+            self.assertIsNone(node.cause, place)
+        for place, node in self.nodes(ast.ExceptHandler):
+            self.assertIn(node.type.id, classes, place)
+
+    def test_numbers_and_strings(self):
+        """L27: exponents, and the braces of f-strings."""
+        for place, node in self.nodes(ast.BinOp):
+            if isinstance(node.op, ast.Pow):
+                self.assertIsInstance(node.right, ast.Constant, place)
+                self.assertTrue(0 <= node.right.value <= 64, place)
+        for place, node in self.nodes(ast.JoinedStr):
+            self.assertEqual(node.lineno, node.end_lineno, place)
+            for inner in ast.walk(node):
+                if isinstance(inner, ast.FormattedValue):
+                    self.assertIsNone(inner.format_spec, place)
+                    self.assertFalse([part for part in ast.walk(inner.value) if isinstance(part, ast.JoinedStr)], place)
+
+    def test_parameters(self):
+        """L4, L21: defaults are plain, and nothing is annotated."""
+        for place, node in self.nodes(ast.FunctionDef):
+            for default in node.args.defaults + [one for one in node.args.kw_defaults if one is not None]:
+                self.assertIsInstance(default, (ast.Constant, ast.UnaryOp, ast.Tuple), place)
+            self.assertIsNone(node.returns, place)
+            self.assertEqual(node.args.posonlyargs, [], place)
+        for place, node in self.nodes(ast.arg):
+            self.assertIsNone(node.annotation, place)
+
+    def test_double_underscore_methods(self):
+        """L28"""
+        for place, node in self.nodes(ast.FunctionDef):
+            returned = [inner.value for inner in ast.walk(node) if isinstance(inner, ast.Return)]
+            if node.name == "__init__":
+                self.assertEqual(returned, [], place)
+            if node.name == "__len__":
+                self.assertEqual([value.func.id for value in returned], ["len"], place)
 
     def check_methods(self, file, name, methods):
         """Each method of the interface is defined in its class itself."""
